@@ -1,0 +1,1 @@
+"""clearfloor: a controller of warehouse robots that break down anywhere."""
