@@ -4,7 +4,9 @@ import ast
 import pathlib
 import unittest
 
-PACKAGE = pathlib.Path(__file__).resolve().parent.parent / "clearfloor"
+import clearfloor
+
+PACKAGE = pathlib.Path(clearfloor.__file__).resolve().parent
 FILES = sorted(PACKAGE.glob("**/*.py"))
 LIBRARY = {"heapq", "math", "itertools", "collections"}
 
