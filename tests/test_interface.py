@@ -27,6 +27,46 @@ FUNCTIONS = {
         "ways_home(floor, closed, cells)",
     ],
     "assign": ["nearest_free(fleet, cells)", "next_order(fleet)", "assign(fleet)"],
+    "acts": [
+        "first_robot(fleet)",
+        "nearer_places(fleet, cells, robot)",
+        "step(fleet, robot, position)",
+        "can_step(fleet, robot, position)",
+        "step_home(fleet, robot)",
+        "handle(fleet, number)",
+        "plain_act(fleet, number, robot)",
+        "first_goes(fleet)",
+        "careful_act(fleet, number, robot)",
+        "idle_act(fleet, robot)",
+        "act_of(fleet, robot)",
+    ],
+    "waiting": [
+        "robot_on(fleet, position)",
+        "hindrance(fleet, robot, position)",
+        "hindrances(fleet, number, robot)",
+        "waits(fleet, robot)",
+    ],
+    "events": [
+        "why_no_order(fleet, start, goal)",
+        "why_not(fleet, event)",
+        "broken_down(fleet, robot)",
+        "happen(fleet, event)",
+        "run(fleet, events)",
+    ],
+    "analysis": [
+        "strength(floor, robots, closed=())",
+        "keeps_promise(floor, robots, broken)",
+        "hanging_cells(floor, robots)",
+        "analyze(floor, robots)",
+        "most_acts(floor, robots)",
+    ],
+    "effort": [
+        "steps_home(fleet, robot)",
+        "work_of(fleet, robot)",
+        "share_of(fleet, robot)",
+        "delay(fleet)",
+        "effort(fleet)",
+    ],
 }
 
 CLASSES = {
