@@ -246,11 +246,13 @@ class StepHomeTest(unittest.TestCase):
             self.check_home(fleet, rng)
 
     def check_home(self, fleet, rng):
-        broken = [robot.place for robot in fleet.robots if robot.broken]
         while fleet.running():
-            fleet = step_home(fleet, rng.choice(fleet.running()))
+            robot = rng.choice(fleet.running())
+            before = rows_of(fleet)[0]
+            fails = rng.random() < 0.1
+            fleet = broken_down(fleet, robot) if fails else step_home(fleet, robot)
             self.assertIsNone(facts_fail(fleet))
-        self.assertEqual([robot.place for robot in fleet.robots if robot.broken], broken)
+            self.assertNotEqual(rows_of(fleet)[0], before)
         self.assertTrue(all(robot.place == fleet.floor.depot for robot in fleet.robots if not robot.broken))
 
 

@@ -67,6 +67,42 @@ FUNCTIONS = {
         "delay(fleet)",
         "effort(fleet)",
     ],
+    "log": [
+        "write_event(event)",
+        "read_event(line)",
+        "read_number(text)",
+        "read_order(parts)",
+        "write_log(events)",
+        "read_log(text)",
+    ],
+    "runs": [
+        "mix(first, second)",
+        "chosen(fleet, word, most)",
+        "tries(fleet, seed, index, *, most)",
+        "first_that_happens(fleet, events)",
+        "drive(fleet, *, seed, most, count)",
+    ],
+    "papers": [
+        "is_linked(floor, cells)",
+        "share_cells(cells)",
+        "is_way(floor, closed, sources, goals, way)",
+        "are_apart(ways)",
+        "are_home(floor, closed, cells, ways)",
+        "cuts_off(floor, closed, sources, goals, cut)",
+        "is_safe(fleet)",
+        "is_served(fleet)",
+        "reached_cells(floor, closed, sources, barred)",
+    ],
+    "games": [
+        "is_move(floor, closed, traps, positions, move)",
+        "moves(floor, closed, traps, positions)",
+        "play(floor, closed, traps, positions, row)",
+        "escape(floor, ways, traps)",
+        "blockade(floor, closed, cells)",
+        "weakness(floor, robots, broken)",
+        "trail(parents, place)",
+        "approach(floor, cells, traps)",
+    ],
 }
 
 CLASSES = {
