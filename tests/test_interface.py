@@ -103,6 +103,15 @@ FUNCTIONS = {
         "trail(parents, place)",
         "approach(floor, cells, traps)",
     ],
+    "serving": [
+        "next_ready(fleet, turn)",
+        "serve(fleet, *, turn=0, count)",
+        "all_home(fleet, numbers)",
+        "one_home(fleet, number)",
+    ],
+    "pictures": ["sign_at(fleet, cell)", "picture(fleet)", "way_picture(fleet, robot)"],
+    "signs": ["byte_of(sign)", "is_plain(text)", "bytes_of(text)", "text_of(row)"],
+    "journal": ["format_device(device)", "valid_area(device)"],
 }
 
 CLASSES = {
@@ -148,6 +157,23 @@ CLASSES = {
             "first_open(self)",
             "count_broken(self)",
             "count_done(self)",
+        ],
+    },
+    "device": {
+        "Device": [
+            "__init__(self, size, *, power=None)",
+            "write(self, start, row)",
+            "read(self, start, many)",
+            "recharge(self, power=None)",
+        ],
+    },
+    "journal": {
+        "Journal": [
+            "__init__(self, device)",
+            "texts(self)",
+            "room(self)",
+            "write_record(self, text)",
+            "rewrite(self, texts)",
         ],
     },
 }
