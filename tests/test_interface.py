@@ -112,6 +112,8 @@ FUNCTIONS = {
     "pictures": ["sign_at(fleet, cell)", "picture(fleet)", "way_picture(fleet, robot)"],
     "signs": ["byte_of(sign)", "is_plain(text)", "bytes_of(text)", "text_of(row)"],
     "journal": ["format_device(device)", "valid_area(device)"],
+    "reports": ["write_report(robots, orders)", "read_report(text)"],
+    "house": ["opened(journal)"],
 }
 
 CLASSES = {
@@ -174,6 +176,58 @@ CLASSES = {
             "room(self)",
             "write_record(self, text)",
             "rewrite(self, texts)",
+        ],
+    },
+    "radio": {
+        "Radio": [
+            "__init__(self)",
+            "send(self, letter)",
+            "take(self, index)",
+            "lose(self, index)",
+            "double(self, index)",
+        ],
+    },
+    "unit": {
+        "Unit": [
+            "__init__(self, number, position)",
+            "hear(self, letter)",
+            "told(self)",
+            "fail(self)",
+            "repair(self, position)",
+        ],
+    },
+    "dispatch": {
+        "Dispatch": [
+            "__init__(self, floor, *, robots, patience=4)",
+            "order(self, start, goal)",
+            "command(self, robot)",
+            "resend(self)",
+            "ask(self, robot)",
+            "deliver(self, index)",
+            "repair(self, robot)",
+        ],
+    },
+    "house": {
+        "Warehouse": [
+            "__init__(self, text, *, robots, patience=4, journal=None)",
+            "order(self, start, goal)",
+            "go(self, robot)",
+            "fail(self, robot)",
+            "tow(self, robot)",
+            "drive(self, *, seed, most, count)",
+            "replay(self, text)",
+            "undo(self)",
+            "pack(self)",
+            "robot_rows(self)",
+            "order_rows(self)",
+            "ready(self)",
+            "act(self, robot)",
+            "waits(self, robot)",
+            "first(self)",
+            "distance(self, robot, letter)",
+            "log(self)",
+            "bound(self)",
+            "effort(self)",
         ],
     },
 }
